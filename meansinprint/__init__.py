@@ -1,0 +1,1 @@
+"""Meansinprint: lists of marks told by what is printed of them."""

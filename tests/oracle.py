@@ -1,0 +1,78 @@
+"""What the document says, told the long way, and values that nothing takes."""
+
+import re
+from fractions import Fraction
+from itertools import product
+
+PRINT = re.compile(r"(-?)(0|[1-9][0-9]{0,3})(\.[0-9]{1,4})?")
+
+# Values of every kind; none of them is an integer or a print.
+ODD_VALUES = (
+    None, True, False, "", " ", "x", "one", b"1", 1.0, 2.5, (), (1,), ("1",), [], [1], ["1"], {}, {1: 1}, {"1": 1},
+    [[[]]], ((), ()), {"a": [None, {"b": ()}]}, frozenset(), object(), int, Fraction(1), 1 + 0j,
+)
+
+# Strings that are nearly prints.
+NEARLY_PRINTS = (
+    "", "-", ".", "-.", "0.", "1.", "-1.", ".5", "-.5", "00", "01", "00.5", "01.5", "-01", "-00.1", "-0", "-0.0",
+    "-0.0000", "12345", "0.12345", "-12345", "1.00000", "10000", "+1", "+0.5", "--1", "-+1", "1-", "1.-1", "1.5.",
+    "1.5.5", "1..5", "1,5", "1_0", "1.5_0", "1e1", "0x1", " 1", "1 ", "1\n", "\n1", "1. 5", "1 .5", "- 1", "1.5\n",
+    "\u0661", "1.\u0665", "\u00b2", "\uff11", "\u22121", "1\u00b75", "nan", "inf", "None", "one", "1" * 5000,
+    "0." + "1" * 5000, "9" * 100000,
+)
+
+
+def is_print(text):
+    """Whether a string is a print, by one pattern."""
+    found = PRINT.fullmatch(text)
+    return found is not None and (found[1] == "" or re.search("[1-9]", text) is not None)
+
+
+def digits_of(text):
+    """How many digits a print has."""
+    return len(text.partition(".")[2])
+
+
+def can_print(number, text):
+    """Whether a number can be printed as a print."""
+    return abs(number - Fraction(text)) <= Fraction(1, 2 * 10 ** digits_of(text))
+
+
+def written(units, digits):
+    """The print that writes so many units of the last figure."""
+    figures = str(abs(units)).zfill(digits + 1)
+    text = figures if digits == 0 else figures[:-digits] + "." + figures[-digits:]
+    return "-" + text if units < 0 else text
+
+
+def tables(low, high, size):
+    """For all lists, one by one: {(least, greatest): {sum: set of sums of squares}}."""
+    found = {}
+    for marks in product(range(low, high + 1), repeat=size):
+        sums = found.setdefault((min(marks), max(marks)), {})
+        sums.setdefault(sum(marks), set()).add(sum(mark * mark for mark in marks))
+    return found
+
+
+def by_ends(found, least, greatest):
+    """Of what tables returns, the lists with the told ends: {sum: set of sums of squares}."""
+    merged = {}
+    for (first, last), sums in found.items():
+        if least in (None, first) and greatest in (None, last):
+            for total, squares in sums.items():
+                merged.setdefault(total, set()).update(squares)
+    return merged
+
+
+def end_choices(low, high):
+    """All that can be told of the ends: (least, greatest), each a mark or None."""
+    marks = [None, *range(low, high + 1)]
+    return [(a, b) for a in marks for b in marks if a is None or b is None or a <= b]
+
+
+def facts(report):
+    """The nine properties of a report."""
+    return (
+        report.low, report.high, report.size, report.mean, report.spread, report.kind,
+        report.least, report.greatest, report.middle,
+    )
