@@ -30,6 +30,32 @@ def print_bounds(text):
     return written - 1, written + 1, 2 * UNITS[len(digits)]
 
 
+def can_print(number, parts, text):
+    """Tell whether number / parts can be printed as text."""
+    below, above, units = print_bounds(text)
+    return below * parts <= number * units <= above * parts
+
+
+def mean_prints(totals, many, digits):
+    """Return the ascending list of all prints with so many digits of the means of so many marks with such totals."""
+    found = sorted({units for total in totals for units in _units_near(total, many, digits)})
+    return [_write_print(units, digits) for units in found]
+
+
+def _units_near(number, parts, digits):
+    """Return the list of the one or two numbers of last figures as which number / parts can be printed."""
+    doubled = 2 * number * UNITS[digits]
+    least = -((parts - doubled) // (2 * parts))
+    return list(range(least, (doubled + parts) // (2 * parts) + 1))
+
+
+def _write_print(units, digits):
+    figures = str(abs(units)).zfill(digits + 1)
+    whole = figures[:len(figures) - digits]
+    sign = "-" if units < 0 else ""
+    return f"{sign}{whole}.{figures[len(whole):]}" if digits else sign + whole
+
+
 def _is_whole(text):
     return _are_figures(text) and (len(text) == 1 or text[0] != "0")
 

@@ -10,7 +10,7 @@ MOST_MOST = 1000
 
 def sum_range(report):
     """Return the tuple of the least and the greatest sum by scale, size, ends and mean; None if there are none."""
-    return _sums_of(report, report.size)
+    return sums_with(report, report.size, report.mean)
 
 
 def can_mean(report):
@@ -22,8 +22,8 @@ def sizes_for(report, most):
     """Return the list of all numbers of marks from 1 to most by which some list fits scale, ends and mean."""
     if not is_int_within(most, 1, MOST_MOST):
         raise BadMost("most is no integer from 1 to 1000")
-    fewest = 2 if report.spread is not None and report.kind == "sample" else 1
-    return [size for size in range(fewest, most + 1) if _sums_of(report, size) is not None]
+    sizes = range(fewest_marks(report), most + 1)
+    return [size for size in sizes if sums_with(report, size, report.mean) is not None]
 
 
 def square_range(report, total):
@@ -42,14 +42,20 @@ def square_range(report, total):
     return squares + _least_squares(many, rest), squares + _greatest_squares(many, low, high, rest)
 
 
-def _sums_of(report, size):
-    """Return what sum_range returns, but for lists of so many marks."""
+def fewest_marks(report):
+    """Return the least number of marks that a report with this spread and kind can have."""
+    # One mark has no spread of a sample.
+    return 2 if report.spread is not None and report.kind == "sample" else 1
+
+
+def sums_with(report, size, mean):
+    """Return what sum_range returns, but for lists of so many marks with this print of the mean."""
     told = told_marks(report, size)
     if told is None:
         return None
     low, high = mark_range(report)
     many = size - len(told)
-    below, above, parts = print_bounds(report.mean)
+    below, above, parts = print_bounds(mean)
     least = max(sum(told) + many * low, -(-size * below // parts))
     greatest = min(sum(told) + many * high, size * above // parts)
     return (least, greatest) if least <= greatest else None

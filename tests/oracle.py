@@ -2,7 +2,7 @@
 
 import re
 from fractions import Fraction
-from itertools import product
+from itertools import combinations_with_replacement, product
 
 PRINT = re.compile(r"(-?)(0|[1-9][0-9]{0,3})(\.[0-9]{1,4})?")
 
@@ -76,3 +76,57 @@ def facts(report):
         report.low, report.high, report.size, report.mean, report.spread, report.kind,
         report.least, report.greatest, report.middle,
     )
+
+
+def multisets(low, high, size):
+    """All lists of the scale as ascending tuples, ascending."""
+    return list(combinations_with_replacement(range(low, high + 1), size))
+
+
+def ends_fit(report, marks):
+    """Whether the ends of a list are the told ones."""
+    return report.least in (None, min(marks)) and report.greatest in (None, max(marks))
+
+
+def middle_of(marks):
+    """The middle of a list, as a fraction."""
+    row = sorted(marks)
+    return Fraction(row[(len(row) - 1) // 2] + row[len(row) // 2], 2)
+
+
+def spread_square(marks, kind):
+    """The square of the spread of a list, as a fraction."""
+    mean = Fraction(sum(marks), len(marks))
+    return sum((mark - mean) ** 2 for mark in marks) / (len(marks) - (kind == "sample"))
+
+
+def can_root(square, text):
+    """Whether the root of a fraction that is not below 0 can be printed as a print."""
+    half = Fraction(1, 2 * 10 ** digits_of(text))
+    return max(Fraction(text) - half, 0) ** 2 <= square <= (Fraction(text) + half) ** 2
+
+
+def fits_but_middle(report, marks):
+    """Whether a list of the scale and the size fits the report, whatever its middle."""
+    if not ends_fit(report, marks) or not can_print(Fraction(sum(marks), len(marks)), report.mean):
+        return False
+    return report.spread is None or can_root(spread_square(marks, report.kind), report.spread)
+
+
+def fits(report, marks):
+    """Whether a list of the scale and the size fits the report."""
+    return fits_but_middle(report, marks) and (report.middle is None or can_print(middle_of(marks), report.middle))
+
+
+def pair_of(marks):
+    """The sum and the sum of squares."""
+    return sum(marks), sum(mark * mark for mark in marks)
+
+
+def prints_of(numbers, digits):
+    """All prints with so many digits of any of the fractions, those of less numbers first."""
+    found = set()
+    for number in numbers:
+        near = int(number * 10 ** digits)
+        found.update(units for units in range(near - 3, near + 4) if can_print(number, written(units, digits)))
+    return [written(units, digits) for units in sorted(found)]

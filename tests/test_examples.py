@@ -2,7 +2,11 @@
 
 import unittest
 
+from meansinprint.changing import joined_prints, misprints, shared_sizes, without
+from meansinprint.judging import pairs, sizes, verdict
+from meansinprint.lists import all_lists, count_lists, first_list, fits, often, sure_marks
 from meansinprint.reports import Report
+from meansinprint.squares import gap, squares
 from meansinprint.sums import can_mean, sizes_for, square_range, sum_range
 
 
@@ -17,6 +21,37 @@ class ExamplesTest(unittest.TestCase):
         self.assertIsNone(square_range(Report(1, 5, 3, "3"), 16))
         self.assertEqual(sum_range(Report(1, 5, 3, "4", None, "sample", 1)), (11, 11))
         self.assertEqual(sum_range(Report(0, 5, 2, "0")), (0, 1))
+
+    def test_squares_and_judging(self):
+        self.assertEqual(squares(Report(1, 5, 3, "3"), 9), [27, 29, 33, 35])
+        self.assertEqual(gap(Report(1, 5, 3, "3"), 9), 31)
+        self.assertEqual(pairs(Report(1, 5, 10, "3.4", "1.26")), [(34, 130)])
+        self.assertEqual(verdict(Report(1, 5, 10, "3.4", "1.26")), "good")
+        self.assertEqual(verdict(Report(1, 5, 10, "3.4", "1.30")), "spread")
+        self.assertEqual(verdict(Report(1, 5, 3, "3.0", "1.41")), "gap")
+        self.assertEqual(verdict(Report(1, 5, 10, "3.47", "1.26")), "mean")
+        self.assertEqual(sizes(Report(1, 5, 3, "3.0", "1.41"), 4), [2, 4])
+
+    def test_lists(self):
+        plain, told = Report(1, 5, 3, "3.0"), Report(1, 5, 3, "3.0", None, "sample", 1)
+        self.assertEqual(all_lists(plain), [(1, 3, 5), (1, 4, 4), (2, 2, 5), (2, 3, 4), (3, 3, 3)])
+        self.assertEqual(count_lists(Report(1, 5, 3, "3.0", None, "sample", None, None, "3")), 3)
+        self.assertEqual(first_list(told), (1, 3, 5))
+        self.assertEqual(often(told), [(1, 1, 1), (2, 0, 0), (3, 0, 1), (4, 0, 2), (5, 0, 1)])
+        self.assertEqual(sure_marks(told), [1])
+        self.assertIs(fits(told, [5, 1, 3]), True)
+        self.assertIs(fits(told, (2, 2, 5)), False)
+        self.assertIsNone(first_list(Report(1, 5, 3, "3.1")))
+
+    def test_changing(self):
+        plain = Report(1, 5, 3, "3.0")
+        self.assertEqual(without(plain, 5, 1), ["2.0"])
+        self.assertEqual(without(plain, 1, 1), ["4.0"])
+        self.assertEqual(joined_prints(plain, Report(1, 5, 2, "4.5"), 2), ["3.60"])
+        self.assertEqual(shared_sizes((Report(1, 5, 1, "3.47"), Report(1, 5, 1, "2.53")), 20), [15, 17, 19])
+        self.assertEqual(misprints(Report(1, 5, 10, "3.47")), (1, ["3.40"]))
+        self.assertEqual(misprints(plain), (0, ["3.0"]))
+        self.assertEqual(misprints(Report(1, 2, 1, "7")), (1, ["1", "2"]))
 
 
 if __name__ == "__main__":

@@ -6,9 +6,25 @@ import unittest
 from pathlib import Path
 
 import meansinprint
-from meansinprint import reports, sums
+from meansinprint import changing, judging, lists, reports, squares, sums
 
 FOLDER = Path(meansinprint.__file__).parent
+FUNCTIONS = {
+    sums: {
+        "sum_range": ["report"], "square_range": ["report", "total"], "can_mean": ["report"],
+        "sizes_for": ["report", "most"],
+    },
+    squares: {"squares": ["report", "total"], "gap": ["report", "total"]},
+    judging: {"pairs": ["report"], "verdict": ["report"], "sizes": ["report", "most"]},
+    lists: {
+        "fits": ["report", "value"], "count_lists": ["report"], "all_lists": ["report"], "first_list": ["report"],
+        "often": ["report"], "sure_marks": ["report"],
+    },
+    changing: {
+        "without": ["report", "mark", "digits"], "joined_prints": ["one", "other", "digits"],
+        "shared_sizes": ["reports", "most"], "misprints": ["report"],
+    },
+}
 OUTSIDE = {"heapq", "math", "itertools", "collections", "__future__"}
 
 
@@ -24,15 +40,12 @@ def functions():
 
 class InterfaceTest(unittest.TestCase):
     def test_functions(self):
-        arguments = {
-            "sum_range": ["report"], "square_range": ["report", "total"], "can_mean": ["report"],
-            "sizes_for": ["report", "most"],
-        }
-        for name, found in arguments.items():
-            function = vars(sums)[name]
-            self.assertTrue(inspect.isfunction(function))
-            self.assertEqual(function.__module__, "meansinprint.sums")
-            self.assertEqual(list(inspect.signature(function).parameters), found)
+        for module, arguments in FUNCTIONS.items():
+            for name, found in arguments.items():
+                function = vars(module)[name]
+                self.assertTrue(inspect.isfunction(function))
+                self.assertEqual(function.__module__, module.__name__)
+                self.assertEqual(list(inspect.signature(function).parameters), found)
 
     def test_report(self):
         self.assertEqual(reports.Report.__module__, "meansinprint.reports")

@@ -5,7 +5,7 @@ from fractions import Fraction
 from itertools import product
 
 from meansinprint.errors import BadPrint
-from meansinprint.prints import is_print, is_print_from_zero, print_bounds
+from meansinprint.prints import can_print, is_print, is_print_from_zero, mean_prints, print_bounds
 from meansinprint.reports import Report
 from meansinprint.sums import sum_range
 from tests import oracle
@@ -101,6 +101,29 @@ class PrintBoundsTest(unittest.TestCase):
         self.assertEqual(sum_range(Report(0, 1, size, "0.0001")), (50, 150))
         self.assertEqual(sum_range(Report(0, 1, 10 ** 6 - 1, "0")), (0, 499999))
         self.assertEqual(sum_range(Report(0, 1, 10 ** 6 - 1, "1")), (500000, 999999))
+
+
+class PrintingTest(unittest.TestCase):
+    def test_can_print(self):
+        for text in ("0", "1", "-1", "0.0", "0.1", "-0.1", "0.12", "0.13", "-0.12", "2.500", "9999.9999"):
+            for number, parts in product(range(-60, 61), (1, 2, 3, 8, 20, 16)):
+                expected = oracle.can_print(Fraction(number, parts), text)
+                self.assertIs(can_print(number, parts, text), expected, (number, parts, text))
+
+    def test_mean_prints(self):
+        # Less numbers come first, also below 0, and each print once.
+        self.assertEqual(mean_prints([1, -3, -1, 1], 2, 0), ["-2", "-1", "0", "1"])
+        self.assertEqual(mean_prints([1, -1], 8, 2), ["-0.13", "-0.12", "0.12", "0.13"])
+        self.assertEqual(mean_prints([-1], 300, 2), ["0.00"])
+        self.assertEqual(mean_prints([100, 20], 2, 1), ["10.0", "50.0"])
+        self.assertEqual(mean_prints([], 2, 1), [])
+
+    def test_mean_prints_by_fractions(self):
+        for digits, many in product(range(5), (1, 2, 3, 4, 7, 8, 16, 32, 40, 999, 1000)):
+            for total in (*range(-9, 10), *(sign * 50 * many + near for sign in (-1, 1) for near in (-1, 0, 1))):
+                found = mean_prints([total], many, digits)
+                self.assertEqual(found, oracle.prints_of([Fraction(total, many)], digits), (total, many, digits))
+                self.assertTrue(all(is_print(text) and oracle.digits_of(text) == digits for text in found))
 
 
 if __name__ == "__main__":
