@@ -4,7 +4,7 @@ from math import comb
 
 from meansinprint.errors import TooMany
 from meansinprint.prints import can_print
-from meansinprint.spreads import spread_bounds
+from meansinprint.spreads import sums_give
 
 MOST_LISTS = 20000
 
@@ -47,12 +47,8 @@ def _ends_fit(report, counts):
 
 
 def _sums_fit(report, counts):
-    total = total_of(report.low, counts)
-    if not can_print(total, report.size, report.mean):
-        return False
     squares = sum([many * (report.low + over) * (report.low + over) for over, many in enumerate(counts)])
-    least, greatest = spread_bounds(report, report.size, total)
-    return least <= squares <= greatest
+    return sums_give(report, total_of(report.low, counts), squares)
 
 
 def _middle_fits(report, counts):

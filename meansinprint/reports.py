@@ -90,6 +90,13 @@ class Report:
         return self._middle
 
 
+def without_middle(report):
+    """Return the report, but for its middle, which is not told."""
+    return Report(
+        report.low, report.high, report.size, report.mean, report.spread, report.kind, report.least, report.greatest
+    )
+
+
 def _check_scale(low, high):
     if not is_int_within(low, LEAST_LOW, MOST_HIGH - 1):
         raise BadScale("low is no integer that can stand there")

@@ -1,21 +1,28 @@
-"""By which sums of squares the spread of a report can be printed as told."""
+"""By which sums, and sums of squares, mean and spread of a report can be printed as told."""
 
-from meansinprint.prints import print_bounds
+from meansinprint.prints import can_print, print_bounds
 from meansinprint.sums import square_range
 
 
-def spread_bounds(report, size, total):
-    """Return the least and the greatest integer by which, as sum of squares, the spread can be printed as told."""
+def spread_room(report, size):
+    """Return the least and the greatest size * squares - total * total by which the spread is printed as told."""
     if report.spread is None:
-        return 0, size * max(report.low * report.low, report.high * report.high)
+        width = report.high - report.low
+        # No list has less than 0, or more than if each two of its marks were the whole width apart.
+        return 0, size * size * width * width
     below, above, parts = print_bounds(report.spread)
     # No root is below 0, so neither is what it is compared with.
     below = max(below, 0)
-    # The square of the spread is (size * squares - total * total) / over, so no root has to be taken.
+    # What is measured here is the square of the spread times this, so no root has to be taken.
     over = size * (size - 1) if report.kind == "sample" else size * size
-    known = parts * parts * total * total
-    whole = parts * parts * size
-    return -(-(below * below * over + known) // whole), (above * above * over + known) // whole
+    return -(-below * below * over // (parts * parts)), above * above * over // (parts * parts)
+
+
+def spread_bounds(report, size, total):
+    """Return the least and the greatest sum of squares of lists by which the spread can be printed as told."""
+    least, greatest = spread_room(report, size)
+    known = total * total
+    return -(-(least + known) // size), (greatest + known) // size
 
 
 def could_spread(report, total):
@@ -26,3 +33,14 @@ def could_spread(report, total):
     if (first - total) & 1:
         first += 1
     return first <= min(greatest, above)
+
+
+def sums_give(report, total, square):
+    """Tell whether a sum and a sum of squares, whatever they are, give the mean and, if it is told, the spread."""
+    size = report.size
+    if not can_print(total, size, report.mean):
+        return False
+    if report.spread is None:
+        return True
+    least, greatest = spread_room(report, size)
+    return least <= size * square - total * total <= greatest

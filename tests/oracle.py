@@ -118,6 +118,14 @@ def fits(report, marks):
     return fits_but_middle(report, marks) and (report.middle is None or can_print(middle_of(marks), report.middle))
 
 
+def gives(report, total, square):
+    """Whether a sum and a sum of squares, of a list or not, give the mean and, if it is told, the spread."""
+    if not can_print(Fraction(total, report.size), report.mean):
+        return False
+    parts = report.size - (report.kind == "sample")
+    return report.spread is None or can_root((square - Fraction(total * total, report.size)) / parts, report.spread)
+
+
 def pair_of(marks):
     """The sum and the sum of squares."""
     return sum(marks), sum(mark * mark for mark in marks)

@@ -3,8 +3,11 @@
 import unittest
 
 from meansinprint.changing import joined_prints, misprints, shared_sizes, without
+from meansinprint.far import far_verdict
+from meansinprint.fillers import Filler
 from meansinprint.judging import pairs, sizes, verdict
 from meansinprint.lists import all_lists, count_lists, first_list, fits, often, sure_marks
+from meansinprint.papers import paper, right_paper
 from meansinprint.reports import Report
 from meansinprint.squares import gap, squares
 from meansinprint.sums import can_mean, sizes_for, square_range, sum_range
@@ -52,6 +55,25 @@ class ExamplesTest(unittest.TestCase):
         self.assertEqual(misprints(Report(1, 5, 10, "3.47")), (1, ["3.40"]))
         self.assertEqual(misprints(plain), (0, ["3.0"]))
         self.assertEqual(misprints(Report(1, 2, 1, "7")), (1, ["1", "2"]))
+
+    def test_fillers(self):
+        filler = Filler(Report(1, 5, 3, "3.0"))
+        found = [filler.left(), filler.add(2), filler.options(), filler.add(2), filler.options(), filler.marks]
+        self.assertEqual([*found, filler.undo()], [5, 2, [2, 3, 4, 5], 1, [5], (2, 2), True])
+        found = [filler.left(), len(filler), filler.redo(), filler.left(), filler.add(1), filler.options()]
+        self.assertEqual(found, [2, 1, True, 1, 0, []])
+
+    def test_far_and_papers(self):
+        self.assertEqual(far_verdict(Report(1, 5, 10, "3.47")), "mean")
+        self.assertEqual(far_verdict(Report(1, 5, 3, "3.0", "1.41")), "open")
+        self.assertEqual(far_verdict(Report(1, 5, 1000, "3.5", "1.2")), "open")
+        self.assertEqual(far_verdict(Report(1, 5, 1000, "4.9", "1.5")), "spread")
+        self.assertEqual(paper(Report(1, 5, 3, "3.0")), ("list", (1, 3, 5)))
+        bad = Report(1, 2, 2, "1.7")
+        self.assertEqual(paper(bad), ("layers", (((0, 0),), ((1, 1), (2, 4)), ((2, 2), (3, 5), (4, 8)))))
+        self.assertIs(right_paper(bad, paper(bad)), True)
+        self.assertIs(right_paper(bad, ("list", (1, 2))), False)
+        self.assertEqual(paper(Report(1, 5, 1, "3", None, "sample", 1, 5)), ("ends",))
 
 
 if __name__ == "__main__":

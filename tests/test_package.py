@@ -6,7 +6,7 @@ import unittest
 from pathlib import Path
 
 import meansinprint
-from meansinprint import changing, judging, lists, reports, squares, sums
+from meansinprint import changing, far, fillers, judging, lists, papers, reports, squares, sums
 
 FOLDER = Path(meansinprint.__file__).parent
 FUNCTIONS = {
@@ -24,6 +24,8 @@ FUNCTIONS = {
         "without": ["report", "mark", "digits"], "joined_prints": ["one", "other", "digits"],
         "shared_sizes": ["reports", "most"], "misprints": ["report"],
     },
+    far: {"far_verdict": ["report"]},
+    papers: {"paper": ["report"], "right_paper": ["report", "value"]},
 }
 OUTSIDE = {"heapq", "math", "itertools", "collections", "__future__"}
 
@@ -54,6 +56,13 @@ class InterfaceTest(unittest.TestCase):
             "(low, high, size, mean, spread=None, kind='sample', least=None, greatest=None, middle=None)",
         )
         self.assertIn("__eq__", vars(reports.Report))
+
+    def test_filler(self):
+        self.assertEqual(fillers.Filler.__module__, "meansinprint.fillers")
+        self.assertEqual(str(inspect.signature(fillers.Filler)), "(report)")
+        for name, found in (("add", ["self", "mark"]), ("left", ["self"]), ("options", ["self"]), ("undo", ["self"]),
+                            ("redo", ["self"]), ("__len__", ["self"])):
+            self.assertEqual(list(inspect.signature(vars(fillers.Filler)[name]).parameters), found)
 
 
 class FormTest(unittest.TestCase):
