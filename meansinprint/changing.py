@@ -1,14 +1,13 @@
 """What becomes of a report if a mark, another list, its size or a figure changes."""
 
 from meansinprint.counts import fitting_counts, total_of
-from meansinprint.errors import BadDigits, BadMark, BadReports, TooMany, Unlike
+from meansinprint.errors import BadMark, BadReports, TooMany, Unlike
 from meansinprint.integers import is_int_within
 from meansinprint.judging import sizes
-from meansinprint.prints import FIGURES, is_print, mean_prints
+from meansinprint.prints import FIGURES, check_digits, is_print, mean_prints
 from meansinprint.reports import Report
 from meansinprint.sums import sum_range, sums_with
 
-MOST_DIGITS = 4
 MOST_JOINED = 1000
 MOST_REPORTS = 20
 MOST_CHANGED = 4
@@ -18,7 +17,7 @@ def without(report, mark, digits):
     """Return the ascending list of the prints of the mean of the others, the mark taken out of a list that fits."""
     if report.size == 1 or not is_int_within(mark, report.low, report.high):
         raise BadMark("there is no such mark to take out, or no other")
-    _check_digits(digits)
+    check_digits(digits)
     having = [counts for counts in fitting_counts(report) if counts[mark - report.low] > 0]
     totals = [total_of(report.low, counts) - mark for counts in having]
     return mean_prints(totals, report.size - 1, digits)
@@ -28,7 +27,7 @@ def joined_prints(one, other, digits):
     """Return the ascending list of the prints of the mean of all marks of two lists by their reports' sums."""
     if (one.low, one.high) != (other.low, other.high):
         raise Unlike("the scales are unlike")
-    _check_digits(digits)
+    check_digits(digits)
     many = one.size + other.size
     if many > MOST_JOINED:
         raise TooMany("there are more than 1000 marks together")
@@ -55,11 +54,6 @@ def misprints(report):
         return None
     fewest = rows[0][0]
     return fewest, [text for many, text in rows if many == fewest]
-
-
-def _check_digits(digits):
-    if not is_int_within(digits, 0, MOST_DIGITS):
-        raise BadDigits("digits is no integer from 0 to 4")
 
 
 def _are_reports(value):

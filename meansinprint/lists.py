@@ -3,6 +3,7 @@
 from meansinprint.counts import counts_fit, fitting_counts, marks_of
 from meansinprint.errors import TooMany
 from meansinprint.integers import is_int_within
+from meansinprint.reports import without_middle
 
 MOST_SHOWN = 200
 
@@ -14,6 +15,11 @@ def fits(report, value):
     if not all([is_int_within(mark, report.low, report.high) for mark in value]):
         return False
     return counts_fit(report, [value.count(mark) for mark in range(report.low, report.high + 1)])
+
+
+def is_list_but_middle(report, value):
+    """Tell whether any value is an ascending tuple that fits the report, whatever its middle."""
+    return isinstance(value, tuple) and fits(without_middle(report), value) and list(value) == sorted(value)
 
 
 def count_lists(report):

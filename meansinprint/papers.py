@@ -4,7 +4,7 @@ from meansinprint.counts import fitting_counts, marks_of
 from meansinprint.ends import mark_range, told_marks
 from meansinprint.errors import TooMany
 from meansinprint.integers import is_int
-from meansinprint.lists import fits
+from meansinprint.lists import is_list_but_middle
 from meansinprint.reports import without_middle
 from meansinprint.spreads import sums_give
 
@@ -32,7 +32,7 @@ def right_paper(report, value):
     if len(value) != 2:
         return False
     if value[0] == "list":
-        return _is_right_list(report, value[1])
+        return is_list_but_middle(report, value[1])
     return value[0] == "layers" and _are_right_layers(report, value[1])
 
 
@@ -61,10 +61,6 @@ def _fewest_layers(report, told):
 
 def _next_layer(layer, marks):
     return tuple(sorted({(total + mark, square + mark * mark) for total, square in layer for mark in marks}))
-
-
-def _is_right_list(report, marks):
-    return isinstance(marks, tuple) and fits(without_middle(report), marks) and list(marks) == sorted(marks)
 
 
 def _are_right_layers(report, layers):

@@ -1,7 +1,13 @@
 """Prints: strings that write numbers."""
 
+from math import isqrt
+
+from meansinprint.errors import BadDigits
+from meansinprint.integers import is_int_within
+
 FIGURES = "0123456789"
 MOST_FIGURES = 4
+MOST_DIGITS = 4
 UNITS = (1, 10, 100, 1000, 10000)
 
 
@@ -22,6 +28,11 @@ def is_print_from_zero(value):
     return is_print(value) and not value.startswith("-")
 
 
+def digits_of(text):
+    """Return how many digits the print has."""
+    return len(text.partition(".")[2])
+
+
 def print_bounds(text):
     """Return (least, most, parts): what can be printed as text is from least / parts to most / parts."""
     whole, _, digits = text.partition(".")
@@ -36,20 +47,36 @@ def can_print(number, parts, text):
     return below * parts <= number * units <= above * parts
 
 
+def check_digits(digits):
+    """Raise BadDigits unless any value is a number of digits that a print can have."""
+    if not is_int_within(digits, 0, MOST_DIGITS):
+        raise BadDigits("digits is no integer from 0 to 4")
+
+
 def mean_prints(totals, many, digits):
     """Return the ascending list of all prints with so many digits of the means of so many marks with such totals."""
-    found = sorted({units for total in totals for units in _units_near(total, many, digits)})
-    return [_write_print(units, digits) for units in found]
+    found = sorted({units for total in totals for units in units_near(total, many, digits)})
+    return [write_print(units, digits) for units in found]
 
 
-def _units_near(number, parts, digits):
+def units_near(number, parts, digits):
     """Return the list of the one or two numbers of last figures as which number / parts can be printed."""
     doubled = 2 * number * UNITS[digits]
     least = -((parts - doubled) // (2 * parts))
     return list(range(least, (doubled + parts) // (2 * parts) + 1))
 
 
-def _write_print(units, digits):
+def units_near_root(number, parts, digits):
+    """Return the list of the one or two numbers of last figures as which the root of number / parts can be printed."""
+    # The root in halves of the last figure lies from halves to above.
+    square = 4 * number * UNITS[digits] * UNITS[digits]
+    halves = isqrt(square // parts)
+    above = halves if halves * halves * parts == square else halves + 1
+    return list(range(above // 2, (halves + 1) // 2 + 1))
+
+
+def write_print(units, digits):
+    """Return the print with so many digits that writes so many units of the last figure."""
     figures = str(abs(units)).zfill(digits + 1)
     whole = figures[:len(figures) - digits]
     sign = "-" if units < 0 else ""

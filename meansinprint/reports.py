@@ -90,6 +90,11 @@ class Report:
         return self._middle
 
 
+def most_high(low):
+    """Return the greatest mark that a scale with this lowest one can have."""
+    return min(low + MOST_WIDTH, MOST_HIGH)
+
+
 def without_middle(report):
     """Return the report, but for its middle, which is not told."""
     return Report(
@@ -100,7 +105,7 @@ def without_middle(report):
 def _check_scale(low, high):
     if not is_int_within(low, LEAST_LOW, MOST_HIGH - 1):
         raise BadScale("low is no integer that can stand there")
-    if not is_int_within(high, low + 1, min(low + MOST_WIDTH, MOST_HIGH)):
+    if not is_int_within(high, low + 1, most_high(low)):
         raise BadScale("high is no integer that can stand there")
 
 

@@ -4,6 +4,11 @@ from meansinprint.prints import can_print, print_bounds
 from meansinprint.sums import square_range
 
 
+def spread_over(size, kind):
+    """Return by what size * squares - total * total is divided to be the square of the spread."""
+    return size * (size - 1) if kind == "sample" else size * size
+
+
 def spread_room(report, size):
     """Return the least and the greatest size * squares - total * total by which the spread is printed as told."""
     if report.spread is None:
@@ -13,8 +18,8 @@ def spread_room(report, size):
     below, above, parts = print_bounds(report.spread)
     # No root is below 0, so neither is what it is compared with.
     below = max(below, 0)
-    # What is measured here is the square of the spread times this, so no root has to be taken.
-    over = size * (size - 1) if report.kind == "sample" else size * size
+    # What is measured here is the square of the spread times over, so no root has to be taken.
+    over = spread_over(size, report.kind)
     return -(-below * below * over // (parts * parts)), above * above * over // (parts * parts)
 
 

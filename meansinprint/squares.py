@@ -1,6 +1,6 @@
 """The sums of squares of lists with a sum, one by one."""
 
-from meansinprint.sums import square_range
+from meansinprint.sums import end_sums, square_range
 from meansinprint.tables import SquareTable, check_few
 
 
@@ -21,3 +21,13 @@ def gap(report, total):
         if found[at] != found[at - 1] + 2:
             return found[at - 1] + 2
     return None
+
+
+def all_squares(report):
+    """Return a dict of all sums by scale, size and ends, ascending, each with the ascending list of its squares."""
+    found = end_sums(report, report.size)
+    if found is None:
+        return {}
+    table = SquareTable(report, report.size)
+    totals = range(found[0], found[1] + 1)
+    return {total: table.squares_within(report.size, total, square_range(report, total)) for total in totals}

@@ -50,15 +50,23 @@ def fewest_marks(report):
 
 def sums_with(report, size, mean):
     """Return what sum_range returns, but for lists of so many marks with this print of the mean."""
+    found = end_sums(report, size)
+    if found is None:
+        return None
+    below, above, parts = print_bounds(mean)
+    least = max(found[0], -(-size * below // parts))
+    greatest = min(found[1], size * above // parts)
+    return (least, greatest) if least <= greatest else None
+
+
+def end_sums(report, size):
+    """Return the tuple of the least and the greatest sum of so many marks by scale and ends alone, or None."""
     told = told_marks(report, size)
     if told is None:
         return None
     low, high = mark_range(report)
     many = size - len(told)
-    below, above, parts = print_bounds(mean)
-    least = max(sum(told) + many * low, -(-size * below // parts))
-    greatest = min(sum(told) + many * high, size * above // parts)
-    return (least, greatest) if least <= greatest else None
+    return sum(told) + many * low, sum(told) + many * high
 
 
 def _least_squares(many, total):

@@ -30,8 +30,10 @@ class SquareTable:
         # The square of least + k is least * least + 2 * least * k + k * k; of the last the layers tell the sums.
         first = sum([mark * mark for mark in told]) + self._least * (many * self._least + 2 * over)
         start = max(bounds[0] - first, 0)
+        # A sum of squares is even just if the sum is.
+        start += (start - over) & 1
         stop = min(bounds[1] - first + 1, len(letters))
-        return [first + at for at in range(start, stop) if letters[at] == "1"]
+        return [first + at for at in range(start, stop, 2) if letters[at] == "1"]
 
 
 def _square_layers(width, most):

@@ -3,6 +3,7 @@
 import re
 from fractions import Fraction
 from itertools import combinations_with_replacement, product
+from math import isqrt
 
 PRINT = re.compile(r"(-?)(0|[1-9][0-9]{0,3})(\.[0-9]{1,4})?")
 
@@ -138,3 +139,21 @@ def prints_of(numbers, digits):
         near = int(number * 10 ** digits)
         found.update(units for units in range(near - 3, near + 4) if can_print(number, written(units, digits)))
     return [written(units, digits) for units in sorted(found)]
+
+
+def root_prints(square, digits):
+    """All prints with so many digits of the root of a fraction that is not below 0, those of less numbers first."""
+    near = isqrt(int(square * 100 ** digits))
+    units = range(max(near - 3, 0), near + 4)
+    return [written(unit, digits) for unit in units if can_root(square, written(unit, digits))]
+
+
+def two_prints(rows, kind, digits, more):
+    """All tuples of prints (mean, spread) of the lists, those with the less mean, then with the less spread first."""
+    found = {}
+    for size, total, square in {(len(row), *pair_of(row)) for row in rows}:
+        apart = (square - Fraction(total * total, size)) / (size - (kind == "sample"))
+        for mean in prints_of([Fraction(total, size)], digits):
+            for spread in root_prints(apart, more):
+                found[Fraction(mean), Fraction(spread)] = mean, spread
+    return [found[numbers] for numbers in sorted(found)]

@@ -1,16 +1,20 @@
-"""The examples of the document that use only what has landed."""
+"""The examples of the document."""
 
 import unittest
 
 from meansinprint.changing import joined_prints, misprints, shared_sizes, without
 from meansinprint.far import far_verdict
 from meansinprint.fillers import Filler
+from meansinprint.groups import rest_prints, split_pairs
 from meansinprint.judging import pairs, sizes, verdict
 from meansinprint.lists import all_lists, count_lists, first_list, fits, often, sure_marks
+from meansinprint.numbering import kth_list, many_lists, rank_list
 from meansinprint.papers import paper, right_paper
+from meansinprint.printable import nearest_prints, print_pairs
 from meansinprint.reports import Report
 from meansinprint.squares import gap, squares
 from meansinprint.sums import can_mean, sizes_for, square_range, sum_range
+from meansinprint.texts import read, write
 
 
 class ExamplesTest(unittest.TestCase):
@@ -74,6 +78,24 @@ class ExamplesTest(unittest.TestCase):
         self.assertIs(right_paper(bad, paper(bad)), True)
         self.assertIs(right_paper(bad, ("list", (1, 2))), False)
         self.assertEqual(paper(Report(1, 5, 1, "3", None, "sample", 1, 5)), ("ends",))
+
+    def test_texts(self):
+        report = Report(1, 5, 10, "3.4", "1.26", "sample", 1)
+        self.assertEqual(write(report), "marks 1 5 size 10 mean 3.4 spread 1.26 sample least 1")
+        self.assertIs(read(write(report)) == report, True)
+        self.assertEqual(read("marks 0 9 size 4 mean 2.5 spread none whole middle -1").middle, "-1")
+
+    def test_numbering_groups_and_printable(self):
+        plain, whole = Report(1, 5, 3, "3.0"), Report(1, 5, 3, "3.0", "2.0")
+        found = [many_lists(plain), kth_list(plain, 2), rank_list(plain, (2, 3, 4)), rank_list(plain, (2, 3, 5))]
+        self.assertEqual(found, [5, (2, 2, 5), 3, None])
+        found = split_pairs(whole, Report(1, 5, 1, "3"), Report(1, 5, 2, "3.0"))
+        self.assertEqual(found, [((3, 9), (6, 26))])
+        self.assertEqual(rest_prints(whole, Report(1, 5, 1, "3"), 1, 1), [("3.0", "2.8")])
+        expected = [("1.0", "0.0"), ("1.5", "0.7"), ("2.0", "0.0"), ("2.0", "1.4"), ("2.5", "0.7"), ("3.0", "0.0")]
+        self.assertEqual(print_pairs(Report(1, 3, 2, "0"), 1, 1), expected)
+        expected = (2, [("1.0", "0.0"), ("1.5", "0.7")])
+        self.assertEqual(nearest_prints(Report(1, 3, 2, "1.6", "0.8")), expected)
 
 
 if __name__ == "__main__":

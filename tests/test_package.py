@@ -6,7 +6,9 @@ import unittest
 from pathlib import Path
 
 import meansinprint
-from meansinprint import changing, far, fillers, judging, lists, papers, reports, squares, sums
+from meansinprint import (
+    changing, far, fillers, groups, judging, lists, numbering, papers, printable, reports, squares, sums, texts,
+)
 
 FOLDER = Path(meansinprint.__file__).parent
 FUNCTIONS = {
@@ -26,6 +28,10 @@ FUNCTIONS = {
     },
     far: {"far_verdict": ["report"]},
     papers: {"paper": ["report"], "right_paper": ["report", "value"]},
+    numbering: {"many_lists": ["report"], "kth_list": ["report", "k"], "rank_list": ["report", "value"]},
+    groups: {"split_pairs": ["whole", "one", "other"], "rest_prints": ["whole", "one", "digits", "more"]},
+    printable: {"print_pairs": ["report", "digits", "more"], "nearest_prints": ["report"]},
+    texts: {"write": ["report"], "read": ["text"]},
 }
 OUTSIDE = {"heapq", "math", "itertools", "collections", "__future__"}
 
