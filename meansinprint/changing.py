@@ -1,12 +1,13 @@
 """What becomes of a report if a mark, another list, its size or a figure changes."""
 
-from meansinprint.counts import fitting_counts, total_of
 from meansinprint.errors import BadMark, BadReports, TooMany, Unlike
+from meansinprint.figures import OtherMeans
+from meansinprint.halves import fitting_rows
 from meansinprint.integers import is_int_within
 from meansinprint.judging import sizes
-from meansinprint.prints import FIGURES, check_digits, is_print, mean_prints
+from meansinprint.prints import FIGURES, check_digits, mean_prints
 from meansinprint.reports import Report
-from meansinprint.sums import sum_range, sums_with
+from meansinprint.sums import end_sums, sum_range
 
 MOST_JOINED = 1000
 MOST_REPORTS = 20
@@ -18,8 +19,8 @@ def without(report, mark, digits):
     if report.size == 1 or not is_int_within(mark, report.low, report.high):
         raise BadMark("there is no such mark to take out, or no other")
     check_digits(digits)
-    having = [counts for counts in fitting_counts(report) if counts[mark - report.low] > 0]
-    totals = [total_of(report.low, counts) - mark for counts in having]
+    at = mark - report.low
+    totals = sorted({total - mark for total, counts in fitting_rows(report) if counts[at] > 0})
     return mean_prints(totals, report.size - 1, digits)
 
 
@@ -49,27 +50,18 @@ def misprints(report):
     """Return (many, prints): how many figures of mean must be others at least, and by which prints; or None."""
     if len([letter for letter in report.mean if letter in FIGURES]) > MOST_CHANGED:
         raise TooMany("the mean has more than 4 figures")
-    rows = sorted([(many, text) for many, text in _changed_figures(report.mean) if _can_stand(report, text)])
-    if not rows:
+    sums = end_sums(report, report.size)
+    if sums is None:
         return None
-    fewest = rows[0][0]
-    return fewest, [text for many, text in rows if many == fewest]
+    others = OtherMeans(report, sums)
+    for many in range(MOST_CHANGED + 1):
+        found = others.changed(many)
+        if found:
+            return many, found
+    return None
 
 
 def _are_reports(value):
     if not isinstance(value, (list, tuple)) or not 1 <= len(value) <= MOST_REPORTS:
         return False
     return all([isinstance(report, Report) for report in value])
-
-
-def _can_stand(report, mean):
-    return is_print(mean) and sums_with(report, report.size, mean) is not None
-
-
-def _changed_figures(text):
-    """Return all tuples (many, other), other being the text with so many figures changed, letters by letters."""
-    rows = [(0, "")]
-    for letter in text:
-        figures = FIGURES if letter in FIGURES else letter
-        rows = [(many + int(figure != letter), other + figure) for many, other in rows for figure in figures]
-    return rows

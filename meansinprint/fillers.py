@@ -1,7 +1,7 @@
 """Lists that are filled in, mark by mark."""
 
-from meansinprint.counts import fitting_counts
 from meansinprint.errors import BadMark, Full
+from meansinprint.halves import fitting_rows
 from meansinprint.integers import is_int_within
 
 
@@ -10,7 +10,7 @@ class Filler:
 
     def __init__(self, report):
         self._report = report
-        self._lists = fitting_counts(report)
+        self._lists = [counts for _, counts in fitting_rows(report)]
         self._marks = []
         self._undone = []
         self._have = [0] * (report.high - report.low + 1)

@@ -1,7 +1,8 @@
 """All lists of a report, one by one."""
 
-from meansinprint.counts import counts_fit, fitting_counts, marks_of
+from meansinprint.counts import counts_fit, marks_of
 from meansinprint.errors import TooMany
+from meansinprint.halves import fitting_rows
 from meansinprint.integers import is_int_within
 from meansinprint.reports import without_middle
 
@@ -24,32 +25,29 @@ def is_list_but_middle(report, value):
 
 def count_lists(report):
     """Return how many lists fit."""
-    return len(fitting_counts(report))
+    return len(fitting_rows(report))
 
 
 def all_lists(report):
     """Return the ascending list of all lists that fit, as ascending tuples."""
-    found = fitting_counts(report)
+    found = fitting_rows(report)
     if len(found) > MOST_SHOWN:
         raise TooMany("more than 200 lists fit")
-    return [marks_of(report.low, counts) for counts in found]
+    return [marks_of(report.low, counts) for _, counts in found]
 
 
 def first_list(report):
     """Return the first list that fits, or None."""
-    found = fitting_counts(report)
-    return marks_of(report.low, found[0]) if found else None
+    found = fitting_rows(report)
+    return marks_of(report.low, found[0][1]) if found else None
 
 
 def often(report):
     """Return the list of (mark, few, many): how often each mark comes in a list that fits; None if none fits."""
-    found = fitting_counts(report)
+    found = [counts for _, counts in fitting_rows(report)]
     if not found:
         return None
-    return [
-        (report.low + over, min([counts[over] for counts in found]), max([counts[over] for counts in found]))
-        for over in range(report.high - report.low + 1)
-    ]
+    return [(report.low + over, min(column), max(column)) for over, column in enumerate(zip(*found))]
 
 
 def sure_marks(report):

@@ -1,10 +1,9 @@
 """Papers: what shows that a report can be, or that it cannot, whatever its middle."""
 
-from meansinprint.counts import fitting_counts, marks_of
 from meansinprint.ends import mark_range, told_marks
 from meansinprint.errors import TooMany
 from meansinprint.integers import is_int
-from meansinprint.lists import is_list_but_middle
+from meansinprint.lists import first_list, is_list_but_middle
 from meansinprint.reports import without_middle
 from meansinprint.spreads import sums_give
 
@@ -15,9 +14,9 @@ MOST_WIDTH = 6
 def paper(report):
     """Return a paper: the first list that fits, or what shows that there is none."""
     _check_small(report)
-    found = fitting_counts(without_middle(report))
-    if found:
-        return "list", marks_of(report.low, found[0])
+    first = first_list(without_middle(report))
+    if first is not None:
+        return "list", first
     told = told_marks(report, report.size)
     return ("ends",) if told is None else ("layers", _fewest_layers(report, told))
 

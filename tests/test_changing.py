@@ -3,6 +3,7 @@
 import unittest
 from fractions import Fraction
 from itertools import product
+from random import Random
 
 from meansinprint.changing import joined_prints, misprints, shared_sizes, without
 from meansinprint.errors import BadDigits, BadMark, BadMost, BadReports, TooMany, Unlike
@@ -322,6 +323,20 @@ class MisprintsTest(RefusingTest):
         self.assertEqual(
             {0 if found is None else found[0] for found in (by_all_figures(*facts) for facts in rows)}, {0, 1, 2, 3, 4},
         )
+
+    def test_four_figures_by_all_figures(self):
+        source, seen = Random(13), {}
+        for _ in range(30):
+            low = source.choice((-50, -12, -3, -1, 0, 1, 5, 9, 39))
+            high = low + source.choice((1, 2, 5, 11))
+            least, greatest = source.choice(((None, None), (low, None), (None, high), (low, low), (high, high)))
+            sign = source.choice(("", "-")) if low < 1 else ""
+            mean = sign + source.choice(("7.777", "1.234", "12.34", "99.99", "0.123", "4321", "7.777"))
+            facts = (low, high, source.choice((1, 2, 3, 7, 17, 40, 999, BIG)), mean, None, "sample", least, greatest)
+            found = by_all_figures(*facts)
+            self.check(found, *facts)
+            seen[None if found is None else found[0]] = True
+        self.assertGreater(len(seen), 4)
 
     def test_four_and_five_figures(self):
         for mean in ("3.000", "-0.100", "1234", "12.34", "123.4"):

@@ -171,9 +171,10 @@ class RestTest(unittest.TestCase):
         self.assertEqual(rest_prints(whole, Report(1, 5, 1, "5"), 1, 1), [("2.0", "1.4")])
 
     def test_kind_of_the_whole(self):
-        self.assertEqual(rest_prints(Report(1, 5, 3, "3.0", "1.6", "whole"), Report(1, 5, 1, "3"), 0, 2), [("3", "2.00")])
+        whole = Report(1, 5, 3, "3.0", "1.6", "whole")
+        self.assertEqual(rest_prints(whole, Report(1, 5, 1, "3"), 0, 2), [("3", "2.00")])
         one = Report(1, 5, 2, "3.0", "2.8", "sample")
-        self.assertEqual(rest_prints(Report(1, 5, 3, "3.0", "1.6", "whole"), one, 2, 2), [("3.00", "0.00")])
+        self.assertEqual(rest_prints(whole, one, 2, 2), [("3.00", "0.00")])
         self.assertEqual(rest_prints(Report(1, 5, 3, "3.0", None, "whole"), one, 0, 0), [("3", "0")])
 
     def test_order_and_halves(self):

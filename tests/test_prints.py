@@ -69,7 +69,8 @@ class PrintBoundsTest(unittest.TestCase):
         for text in PRINTS:
             below, above, parts = print_bounds(text)
             half = Fraction(1, 2 * 10 ** oracle.digits_of(text))
-            self.assertEqual((Fraction(below, parts), Fraction(above, parts)), (Fraction(text) - half, Fraction(text) + half))
+            expected = Fraction(text) - half, Fraction(text) + half
+            self.assertEqual((Fraction(below, parts), Fraction(above, parts)), expected)
 
     def test_half_a_unit_on_either_side(self):
         # The mean of 1, 2 is printed as both whole numbers around it, one mark more or less no more.
