@@ -298,6 +298,11 @@ class MisprintsTest(RefusingTest):
         self.check((0, ["11"]), 0, 11, 1, "11")
         self.check((1, ["-0.3", "-0.7"]), -1, 1, 3, "-0.4")
         self.check(None, 0, 1, 2, "-0.4")
+        # A sum half way between two prints counts for both, but not for what is no print: -0, or 09.
+        self.check((1, ["-1"]), -1, 1, 2, "-7")
+        self.check((2, ["10", "11"]), 0, 11, 2, "77")
+        self.check((1, ["-0.1", "-1.0"]), -1, 0, 20, "-1.1")
+        self.check((2, ["10.0"]), 9, 10, 20, "97.0")
 
     def test_length_sign_and_point_stay(self):
         self.check((1, ["-3.0"]), -3, -2, 1, "-3.1")
